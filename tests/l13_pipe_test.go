@@ -1553,20 +1553,26 @@ func TestAnswersOfPipesDoNotChange(t *testing.T) {
 	})
 }
 
-func TestPipesWhoseListsAreOneMemory(t *testing.T) {
-	row := []int{2 * one, -3 * one, one}
+// pipeOfOneMemory is a right pipe whose lists are all of that row; the flags say which stages are on their way back.
+func pipeOfOneMemory(row []int, flags int) impl.Pipe {
 	o := op(impl.OpBias, 2, row[:2]...)
 	plan := planOf("recv0 recvg0 fwd1 send1 bwd0 sendg0 flush0")
 	l := rows(row[:2], row[1:])
-	items := []impl.Item{item(0, row[:2]...), item(1, row[1:]...)}
+	q := queue(3, item(0, row[:2]...), item(1, row[1:]...))
+	s := impl.Stage{Plan: plan, Ops: []impl.Op{o}, Stash: []impl.Saved{{Rows: l}}, Full: l, X: row[:2], Y: row[:2], G: row[1:], D: row[1:], Sum: impl.Grads{Rows: l[:1]}}
+	p := impl.Pipe{Batch: []impl.Pair{pair(row[:2], row[1:]), pair(row[:2], row[:2])}, Stages: []impl.Stage{s, s, s}, Acts: []impl.Queue{q, q}, Backs: []impl.Queue{q, q}}
+	p.Stages[2].Last = true
+	for s := range p.Stages {
+		p.Stages[s].Pc = flags >> s & 1 * 4
+	}
+	return p
+}
+
+func TestPipesWhoseListsAreOneMemory(t *testing.T) {
+	row := []int{2 * one, -3 * one, one}
 	for flags := range 1 << 3 {
-		q := queue(3, items...)
-		s := impl.Stage{Plan: plan, Ops: []impl.Op{o}, Stash: []impl.Saved{{Rows: l}}, Full: l, X: row[:2], Y: row[:2], G: row[1:], D: row[1:], Sum: impl.Grads{Rows: l[:1]}}
-		p := impl.Pipe{Batch: []impl.Pair{pair(row[:2], row[1:]), pair(row[:2], row[:2])}, Stages: []impl.Stage{s, s, s}, Acts: []impl.Queue{q, q}, Backs: []impl.Queue{q, q}}
-		p.Stages[2].Last = true
-		for s := range p.Stages {
-			p.Stages[s].Pc = flags >> s & 1 * 4
-		}
+		p := pipeOfOneMemory(row, flags)
+		plan := p.Stages[0].Plan
 		far := plainOf(p)
 		for range len(plan) {
 			for s := range p.Stages {
